@@ -1,6 +1,7 @@
 """A farm, and what each call on it answers: a list of numbers; a refusal is its number alone."""
 
-from rowshares.shares import given_out, how_little, longest, most_minutes, picker_of, planned
+from rowshares.shares import given_out, how_little, how_much_longer, longest, most_minutes, picker_of, planned
+from rowshares.shares import rows_exchanged, rows_of, rows_set, rows_without
 
 NONE_SUCH = -2
 ALREADY_SO = -17
@@ -32,6 +33,9 @@ class Farm:
 
     def has_row(self, i):
         return i < len(self.rows)
+
+    def has_picker(self, p):
+        return p < self.pickers
 
     def change(self, rows, pickers):
         # The past keeps the list of rows itself: callers hand in a new one and never change the old.
@@ -76,7 +80,7 @@ def answer_out(farm, numbers):
     i = numbers[0]
     if not farm.has_row(i):
         return [NONE_SUCH]
-    farm.change(farm.rows[:i] + farm.rows[i + 1:], farm.pickers)
+    farm.change(rows_without(farm.rows, i), farm.pickers)
     return [len(farm.rows)]
 
 
@@ -88,7 +92,7 @@ def answer_minutes(farm, numbers):
     if not are_minutes(minutes):
         return [OUT_OF_BOUNDS]
     before = farm.rows[i]
-    farm.change(farm.rows[:i] + [minutes] + farm.rows[i + 1:], farm.pickers)
+    farm.change(rows_set(farm.rows, i, minutes), farm.pickers)
     return [before]
 
 
@@ -139,6 +143,68 @@ def answer_fewest(farm, numbers):
     return [len(given_out(farm.rows, limit))]
 
 
+def answer_if_pickers(farm, numbers):
+    pickers = numbers[0]
+    if not are_pickers(pickers):
+        return [OUT_OF_BOUNDS]
+    return [how_little(farm.rows, pickers)]
+
+
+def answer_more(farm, numbers):
+    minutes = numbers[0]
+    if not are_minutes(minutes):
+        return [OUT_OF_BOUNDS]
+    return [how_little(farm.rows + [minutes], farm.pickers)]
+
+
+def answer_first(farm, numbers):
+    minutes = numbers[0]
+    if not are_minutes(minutes):
+        return [OUT_OF_BOUNDS]
+    return [how_little([minutes] + farm.rows, farm.pickers)]
+
+
+def answer_without(farm, numbers):
+    i = numbers[0]
+    if not farm.has_row(i):
+        return [NONE_SUCH]
+    return [how_little(rows_without(farm.rows, i), farm.pickers)]
+
+
+def answer_exchange(farm, numbers):
+    i = numbers[0]
+    if not farm.has_row(i + 1):
+        return [NONE_SUCH]
+    return [how_little(rows_exchanged(farm.rows, i), farm.pickers)]
+
+
+def answer_longer(farm, numbers):
+    i = numbers[0]
+    if not farm.has_row(i):
+        return [NONE_SUCH]
+    return [how_much_longer(farm.rows, farm.pickers, i)]
+
+
+def answer_idle(farm, numbers):
+    return [farm.pickers * how_little(farm.rows, farm.pickers) - sum(farm.rows)]
+
+
+def answer_has(farm, numbers):
+    picker = numbers[0]
+    if not farm.has_picker(picker):
+        return [NONE_SUCH]
+    own = rows_of(farm.rows, planned(farm.rows, farm.pickers), picker)
+    return [sum(own)] + own
+
+
+def answer_sums(farm, numbers):
+    return [sum(farm.rows), longest(farm.rows)]
+
+
+def answer_state(farm, numbers):
+    return [farm.pickers, len(farm.rows), len(farm.past)]
+
+
 # In the order of the calls' numbers.
 ANSWERERS = (
     answer_begin,
@@ -152,6 +218,16 @@ ANSWERERS = (
     answer_who,
     answer_told,
     answer_fewest,
+    answer_if_pickers,
+    answer_more,
+    answer_first,
+    answer_without,
+    answer_exchange,
+    answer_longer,
+    answer_idle,
+    answer_has,
+    answer_sums,
+    answer_state,
 )
 
 

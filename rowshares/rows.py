@@ -5,7 +5,6 @@ from rowshares.farm import Farm, answer
 TOLD = 9
 
 # How many whole numbers each call has, by its number. Told has none but its shares, which tell their count.
-# The calls that no answer is built for yet stand here too, since ahead of a begin they are refused like all others.
 COUNTS = (1, 1, 1, 2, 1, 0, 0, 0, 1, 0, 1, 1, 1, 1, 1, 1, 1, 0, 1, 0, 0)
 
 

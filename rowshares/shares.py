@@ -50,6 +50,12 @@ def picker_of(shares, i):
     return picker
 
 
+def rows_of(rows, shares, picker):
+    """The minutes of each row that this picker has, in order."""
+    start = sum(shares[:picker])
+    return rows[start:start + shares[picker]]
+
+
 def most_minutes(rows, shares):
     """How many minutes the picker has who has most."""
     most = 0
@@ -59,3 +65,27 @@ def most_minutes(rows, shares):
         most = max(most, sum(rows[start:end]))
         start = end
     return most
+
+
+def rows_without(rows, i):
+    return rows[:i] + rows[i + 1:]
+
+
+def rows_set(rows, i, minutes):
+    """The rows, were row i to take so many minutes."""
+    return rows[:i] + [minutes] + rows[i + 1:]
+
+
+def rows_exchanged(rows, i):
+    """The rows, were row i and the one behind it in each other's places."""
+    return rows[:i] + [rows[i + 1], rows[i]] + rows[i + 2:]
+
+
+def how_much_longer(rows, pickers, i):
+    """By how many minutes row i could take longer, at the most, and how little were the same."""
+    limit = how_little(rows, pickers)
+    minutes = rows[i]
+    # A longer row never needs fewer pickers, so the first length that is too long ends the search.
+    while minutes < limit and len(given_out(rows_set(rows, i, minutes + 1), limit)) <= pickers:
+        minutes += 1
+    return minutes - rows[i]

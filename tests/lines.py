@@ -55,7 +55,7 @@ def rows_told_by(*calls):
     """The rows and the pickers behind these calls, found out by questions alone."""
     ahead = answered(*calls, ("plan",))[-1]
     pickers, how_many = ahead[0], sum(ahead[1:])
-    # No call tells the rows' minutes, but minutes tells what a row took before.
+    # Has tells the minutes by the plan alone; minutes tells what a row took, whatever the plan is.
     asks = [("minutes", i, 1) for i in range(how_many)]
     return [took for took, in answered(*calls, *asks)[len(calls):]], pickers
 

@@ -21,6 +21,8 @@ class NotBegun(unittest.TestCase):
     def test_as_the_interface_writes_it(self):
         line = [6, 1, 200, 2, 0, 3, 0, 0, 4, 0, 5, 7, 8, 0, 9, 0, 9, 2, 0, 0, 10, 0, 0, 1, 6]
         self.assertEqual(answers(line), [1, -61] * 11 + [1, 0, 1, 0])
+        line = [11, 1, 12, 1, 13, 1, 14, 0, 15, 0, 16, 0, 17, 18, 0, 19, 20, 0, 1, 17, 18, 0, 19, 20]
+        self.assertEqual(answers(line), [1, -61] * 10 + [1, 0, 1, 0, 1, 0, 2, 0, 0, 3, 1, 0, 0])
 
     def test_a_refused_begin_does_not_begin(self):
         for pickers in BELOW_AND_ABOVE_PICKERS:
@@ -204,7 +206,9 @@ class Back(unittest.TestCase):
         self.assertEqual(asked(2, [5] * 14, ("row", 5), ("back",), ("plan",)), [[-28], [9], [2, 7, 6]])
 
     def test_a_question_is_nothing_to_take_back(self):
-        questions = [("least",), ("plan",), ("who", 0), ("told", 1, 1), ("fewest", 50)]
+        questions = [("least",), ("plan",), ("who", 0), ("told", 1, 1), ("fewest", 50), ("if_pickers", 3), ("more", 9),
+                     ("first", 9), ("without", 0), ("exchange", 0), ("longer", 0), ("idle",), ("has", 1), ("sums",),
+                     ("state",)]
         self.assertEqual(asked(2, [5, 6], *questions, ("back",), ("plan",))[-2:], [[1], [2, 1, 0]])
 
     def test_a_begin_is_not_taken_back(self):

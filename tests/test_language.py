@@ -21,6 +21,8 @@ NODES = set("""Module Expr Constant ImportFrom alias Assign Name Store Load Func
     Call keyword Subscript Slice List Tuple Dict ListComp comprehension
     BinOp UnaryOp BoolOp Compare IfExp Add Sub Mult FloorDiv Mod Pow LShift RShift BitAnd BitOr BitXor Invert USub
     And Or Not Eq NotEq Lt LtE Gt GtE In NotIn Is IsNot""".split())
+KEYWORDS = {"sorted": ("key", "reverse"), "min": ("key", "default"), "max": ("key", "default"), "sum": ("start",),
+            "enumerate": ("start",), "zip": ("strict",)}
 WORDS_NOT_USED = re.compile(
     r"\b(type|typing|typing_extensions|enum|Enum|IntEnum|StrEnum|Flag|IntFlag|Generic|Protocol|ABC|ABCMeta|namedtuple"
     r"|NamedTuple|TypedDict|TYPE_CHECKING|abstractmethod)\b|dataclass|overload|contextmanager")
@@ -41,6 +43,16 @@ def bound_names(tree):
             yield node.arg
         elif isinstance(node, ast.Name) and isinstance(node.ctx, ast.Store):
             yield node.id
+
+
+def names_at_the_top(tree):
+    for node in tree.body:
+        if isinstance(node, ast.ImportFrom):
+            yield from (alias.asname or alias.name for alias in node.names)
+        elif isinstance(node, ast.Assign):
+            yield node.targets[0].id
+        elif isinstance(node, (ast.FunctionDef, ast.ClassDef)):
+            yield node.name
 
 
 class Language(unittest.TestCase):
@@ -71,6 +83,45 @@ class Language(unittest.TestCase):
                     self.assertEqual(len(node.targets), 1, name)
                 if isinstance(node, ast.Constant):
                     self.assertIn(type(node.value), (int, str, bool, type(None)), name)
+
+    def test_top_of_a_module(self):
+        for name, text, tree in walk_files():
+            for node in tree.body:
+                if isinstance(node, ast.Expr):
+                    self.assertTrue(node is tree.body[0] and isinstance(node.value, ast.Constant), (name, node.lineno))
+                else:
+                    self.assertIsInstance(node, (ast.ImportFrom, ast.FunctionDef, ast.ClassDef, ast.Assign), name)
+                if isinstance(node, ast.Assign):
+                    parts = (ast.Constant, ast.Name, ast.Load, ast.List, ast.Tuple, ast.Dict, ast.UnaryOp, ast.USub)
+                    for part in ast.walk(node.value):
+                        self.assertIsInstance(part, parts, (name, node.lineno))
+            bound = list(names_at_the_top(tree))
+            self.assertEqual(sorted(bound), sorted(set(bound)), name)
+
+    def test_no_local_like_a_class_or_an_import(self):
+        for name, text, tree in walk_files():
+            taken = {alias.asname or alias.name for node in ast.walk(tree) if isinstance(node, ast.ImportFrom)
+                     for alias in node.names}
+            taken |= {node.name for node in ast.walk(tree) if isinstance(node, ast.ClassDef)}
+            for node in ast.walk(tree):
+                if isinstance(node, ast.arg):
+                    self.assertNotIn(node.arg, taken, (name, node.lineno))
+                if isinstance(node, ast.Name) and isinstance(node.ctx, ast.Store):
+                    self.assertNotIn(node.id, taken, (name, node.lineno))
+
+    def test_no_annotation_and_no_strange_keyword(self):
+        for name, text, tree in walk_files():
+            for node in ast.walk(tree):
+                if isinstance(node, ast.FunctionDef):
+                    self.assertIsNone(node.returns, (name, node.name))
+                if isinstance(node, ast.arg):
+                    self.assertIsNone(node.annotation, (name, node.arg))
+                if isinstance(node, ast.Call) and node.keywords:
+                    self.assertIn(node.func.id, KEYWORDS, (name, node.lineno))
+                    for keyword in node.keywords:
+                        self.assertIn(keyword.arg, KEYWORDS[node.func.id], (name, node.lineno))
+                if isinstance(node, ast.Compare) and isinstance(node.ops[0], (ast.Is, ast.IsNot)):
+                    self.assertIsInstance(node.comparators[0], ast.Constant, (name, node.lineno))
 
     def test_imports(self):
         for name, text, tree in walk_files():

@@ -1,9 +1,15 @@
-"""Points 2 and 3: least, plan, who, told, fewest."""
+"""Points 2 and 3: least, plan, who, told, fewest; and what is said of lines."""
 
 import unittest
 
 from lines import GREATEST, answered, asked, begun
 from rowshares.rows import answers
+
+# Each of the 21 calls at least once, on rows of 5, 9 and 4 minutes and three pickers.
+EVERY_SORT = [
+    0, 3, 1, 5, 1, 6, 3, 1, 9, 1, 4, 6, 7, 8, 1, 9, 3, 1, 0, 2, 10, 9, 11, 2, 12, 7, 13, 7, 14, 1, 15, 1, 16, 0, 17,
+    18, 1, 19, 20, 4, 2, 2, 0, 5, 20,
+]
 
 
 class Ordinary(unittest.TestCase):
@@ -152,7 +158,7 @@ class Fewest(unittest.TestCase):
 
 class Lines(unittest.TestCase):
     def test_what_is_handed_in_stays_and_is_answered_alike(self):
-        line = [0, 3, 1, 5, 1, 6, 9, 3, 1, 0, 1, 3, 0, 9, 2, 1, 5, 6, 7, 10, 9, 4, 2, 5, 5, 0, 9, 1, 0]
+        line = EVERY_SORT + [0, 9, 1, 0, 11, 9, 14, 9]
         before = list(line)
         once = answers(line)
         self.assertEqual(line, before)
@@ -170,11 +176,17 @@ class Lines(unittest.TestCase):
             append = extend = insert = pop = remove = clear = reverse = sort = refuse
             __setitem__ = __delitem__ = __iadd__ = __imul__ = refuse
 
-        line = [0, 3, 1, 5, 1, 6, 9, 3, 1, 0, 1, 3, 0, 9, 2, 1, 5, 6, 7, 10, 9, 4, 2, 5, 5]
-        self.assertEqual(answers(Untouched(line)), answers(line))
+        self.assertEqual(answers(Untouched(EVERY_SORT)), answers(EVERY_SORT))
+
+    def test_every_sort(self):
+        self.assertEqual(answers(EVERY_SORT), [
+            1, 0, 1, 0, 1, 1, 1, 6, 1, 2,
+            1, 9, 4, 3, 1, 1, 1, 1, 1, 2, 13, 4, 1, 3,
+            1, 13, 1, 11, 1, 12, 1, 5, 1, 9, 1, 4, 1, 9,
+            2, 9, 9, 2, 18, 9, 3, 3, 3, 4, 1, 3, 1, 2, 1, 5, 3, 2, 3, 5])
 
     def test_whole_numbers_alone(self):
-        given = answers([0, 2, 1, 1, 1, 1, 6, 7, 8, 0, 8, 1, 9, 2, 1, 1, 10, 1, 2, 0, 5, 4, 1, 3, 0, 1, 5])
+        given = answers(EVERY_SORT)
         self.assertIs(type(given), list)
         self.assertEqual({type(number) for number in given}, {int})
 
@@ -186,6 +198,9 @@ class Lines(unittest.TestCase):
     def test_the_longest_line(self):
         given = answered(("begin", 6), *[("told", *[GREATEST] * 16)] * 99)
         self.assertEqual(given, [[0]] + [[-22]] * 99)
+        line = [9, 16, *[GREATEST] * 16] * 100
+        self.assertEqual(len(line), 1800)
+        self.assertEqual(answers(line), [1, -61] * 100)
 
     def test_one_call(self):
         self.assertEqual(answers([0, 6]), [1, 0])

@@ -4,7 +4,7 @@ import itertools
 import random
 import unittest
 
-from lines import GREATEST, all_shares, answered, asked, begun, least_of_all, loads
+from lines import GREATEST, NUMBERS, all_shares, answered, asked, begun, least_of_all, loads
 
 LONGER_ROWS = (
     [100, 1, 1, 1, 1, 1, 1, 1, 1, 1, 1, 1, 1, 1],
@@ -103,6 +103,68 @@ class WhatHolds(unittest.TestCase):
                 self.assertGreaterEqual(least * pickers, sum(rows))
                 if rows:
                     self.assertLess(least * pickers, max(rows) * pickers + sum(rows))
+
+    def test_c_from_the_other_end_were_it_otherwise(self):
+        for rows in LONGER_ROWS:
+            last = len(rows) - 1
+            for pickers in range(1, 7):
+                ahead = [("longer", i) for i in range(last + 1)] + [("without", i) for i in range(last + 1)]
+                ahead += [("exchange", i) for i in range(last)] + [("more", 40), ("first", 40), ("idle",), ("sums",)]
+                behind = [("longer", last - i) for i in range(last + 1)]
+                behind += [("without", last - i) for i in range(last + 1)]
+                behind += [("exchange", last - 1 - i) for i in range(last)]
+                behind += [("first", 40), ("more", 40), ("idle",), ("sums",)]
+                self.assertEqual(asked(pickers, rows, *ahead), asked(pickers, rows[::-1], *behind), (rows, pickers))
+
+    def test_e_if_pickers(self):
+        for rows in small_rows():
+            least = [[least_of_all(rows, k)] for k in range(1, 7)]
+            self.assertEqual(asked(4, rows, *[("if_pickers", k) for k in range(1, 7)]), least, rows)
+            self.assertEqual(least, sorted(least, reverse=True), rows)
+
+    def test_e_more_and_first(self):
+        for rows in small_rows():
+            for pickers in (1, 2, 3, 6):
+                least = least_of_all(rows, pickers)
+                for minutes in (1, 4, 100):
+                    (more,), (first,) = asked(pickers, rows, ("more", minutes), ("first", minutes))
+                    self.assertEqual(more, least_of_all(rows + [minutes], pickers), (rows, pickers, minutes))
+                    self.assertEqual(first, least_of_all([minutes] + rows, pickers), (rows, pickers, minutes))
+                    self.assertTrue(least <= more <= least + minutes, (rows, pickers, minutes))
+                    self.assertTrue(least <= first <= least + minutes, (rows, pickers, minutes))
+
+    def test_e_without_and_exchange(self):
+        for rows in small_rows():
+            for pickers in (1, 2, 3, 6):
+                for i in range(len(rows)):
+                    without, exchange = asked(pickers, rows, ("without", i), ("exchange", i))
+                    self.assertEqual(without, [least_of_all(rows[:i] + rows[i + 1:], pickers)], (rows, pickers, i))
+                    if i + 1 == len(rows):
+                        self.assertEqual(exchange, [-2], (rows, pickers, i))
+                    else:
+                        other = list(rows)
+                        other[i], other[i + 1] = rows[i + 1], rows[i]
+                        self.assertEqual(exchange, [least_of_all(other, pickers)], (rows, pickers, i))
+
+    def test_e_just_so_much_longer(self):
+        for rows in small_rows():
+            for pickers in (1, 2, 3, 4, 6):
+                least = least_of_all(rows, pickers)
+                given = asked(pickers, rows, *[("longer", i) for i in range(len(rows))], ("least",))
+                for i, (x,) in enumerate(given[:-1]):
+                    ahead, behind = rows[:i], rows[i + 1:]
+                    self.assertEqual(least_of_all(ahead + [rows[i] + x] + behind, pickers), least, (rows, pickers, i))
+                    self.assertGreater(
+                        least_of_all(ahead + [rows[i] + x + 1] + behind, pickers), least, (rows, pickers, i))
+
+    def test_what_each_has_and_misses(self):
+        for rows in itertools.chain(small_rows(), LONGER_ROWS):
+            for pickers in range(1, 7):
+                (least,), plan, (idle,), *each = asked(
+                    pickers, rows, ("least",), ("plan",), ("idle",), *[("has", p) for p in range(pickers)])
+                self.assertEqual([given[0] for given in each], loads(rows, plan[1:]), (rows, pickers))
+                self.assertEqual([minutes for given in each for minutes in given[1:]], rows, (rows, pickers))
+                self.assertEqual(idle, sum(least - given[0] for given in each), (rows, pickers))
 
     def test_e_a_picker_more(self):
         for rows in itertools.chain(small_rows(), LONGER_ROWS):
@@ -217,7 +279,59 @@ class Model:
     def fewest(self, rows, pickers, m):
         if any(minutes > m for minutes in rows):
             return [-33]
-        return [len(set(self.holders(rows, m)))]
+        return [self.needed(rows, m)]
+
+    def needed(self, rows, most):
+        return len(set(self.holders(rows, most)))
+
+    def if_pickers(self, rows, pickers, k):
+        return [self.how_little(rows, k)] if k in range(1, 7) else [-22]
+
+    def more(self, rows, pickers, minutes):
+        return [self.how_little(rows + (minutes,), pickers)] if minutes in range(1, 101) else [-22]
+
+    def first(self, rows, pickers, minutes):
+        return [self.how_little((minutes,) + rows, pickers)] if minutes in range(1, 101) else [-22]
+
+    def without(self, rows, pickers, i):
+        if i not in range(len(rows)):
+            return [-2]
+        return [self.how_little([minutes for j, minutes in enumerate(rows) if j != i], pickers)]
+
+    def exchange(self, rows, pickers, i):
+        if i not in range(len(rows) - 1):
+            return [-2]
+        places = {i: i + 1, i + 1: i}
+        return [self.how_little([rows[places.get(j, j)] for j in range(len(rows))], pickers)]
+
+    def longer(self, rows, pickers, i):
+        """The most that is left to who has row i, whichever rows they have, if the others are enough for the rest."""
+        if i not in range(len(rows)):
+            return [-2]
+        most = self.how_little(rows, pickers)
+        left = []
+        for start in range(i + 1):
+            for end in range(i + 1, len(rows) + 1):
+                if self.needed(rows[:start], most) + 1 + self.needed(rows[end:], most) <= pickers:
+                    left.append(most - sum(rows[start:end]))
+        return [max(left)]
+
+    def idle(self, rows, pickers):
+        most = self.how_little(rows, pickers)
+        each = self.holders(rows, most)
+        return [sum(most - sum(n for n, own in zip(rows, each) if own == picker) for picker in range(pickers))]
+
+    def has(self, rows, pickers, p):
+        if p not in range(pickers):
+            return [-2]
+        own = [n for n, picker in zip(rows, self.holders(rows, self.how_little(rows, pickers))) if picker == p]
+        return [sum(own)] + own
+
+    def sums(self, rows, pickers):
+        return [sum(rows), max(rows, default=0)]
+
+    def state(self, rows, pickers):
+        return [pickers, len(rows), len(self.states) - 1]
 
 
 def some_shares(chance, model):
@@ -229,14 +343,15 @@ def some_shares(chance, model):
 
 
 def some_call(chance, model):
-    name = chance.choice(("row",) * 6 + ("out", "minutes", "minutes", "pickers", "back", "back",
-                                         "least", "plan", "who", "told", "told", "fewest"))
-    if chance.random() < 0.02:
-        return "begin", chance.choice((0, 1, 2, 3, 4, 5, 6, 7, GREATEST))
+    name = chance.choice(("row",) * 12 + ("back", "minutes") * 3 + tuple(NUMBERS))
+    if name == "begin":
+        return name, chance.choice((0, 7, GREATEST) * 2 + (1, 2, 3, 4, 5, 6))
     i = chance.choice(list(range(15)) + [GREATEST])
     n = chance.choice((0, 1, 100, 101, GREATEST) + tuple(chance.randint(1, 100) for pick in range(20)))
     numbers = {
         "row": [n], "out": [i], "minutes": [i, n], "pickers": [chance.randint(0, 7)], "who": [i],
+        "if_pickers": [chance.choice((0, 1, 2, 3, 4, 5, 6, 7, GREATEST))], "more": [n], "first": [n],
+        "without": [i], "exchange": [i], "longer": [i], "has": [chance.choice((0, 1, 2, 3, 4, 5, 6, GREATEST))],
         "fewest": [chance.choice((n, n * 2, 100, 150, GREATEST)) % (GREATEST + 1)],
     }
     if name == "told":
@@ -247,6 +362,7 @@ def some_call(chance, model):
 class LongLines(unittest.TestCase):
     def test_against_the_model(self):
         seen = set()
+        lines_of_all_sorts = 0
         for seed in range(400):
             chance = random.Random(seed)
             model = Model()
@@ -257,10 +373,16 @@ class LongLines(unittest.TestCase):
                 awaited.append(model.answer(*call))
                 seen.add((call[0], min(awaited[-1][0], 0)))
             self.assertEqual(answered(*calls), awaited, seed)
+            lines_of_all_sorts += {name for name, *numbers in calls} == set(NUMBERS)
+        self.assertGreater(lines_of_all_sorts, 10)
         refusals = {pair for pair in seen if pair[1] < 0 and pair[1] != -61}
         self.assertEqual(refusals, {
             ("begin", -22), ("row", -22), ("row", -28), ("out", -2), ("minutes", -2), ("minutes", -22),
-            ("pickers", -22), ("pickers", -17), ("back", -2), ("who", -2), ("told", -22), ("fewest", -33)})
+            ("pickers", -22), ("pickers", -17), ("back", -2), ("who", -2), ("told", -22), ("fewest", -33),
+            ("if_pickers", -22), ("more", -22), ("first", -22), ("without", -2), ("exchange", -2), ("longer", -2),
+            ("has", -2)})
+        self.assertEqual({name for name, lowest in seen if lowest == 0}, set(NUMBERS))
+        self.assertEqual({name for name, lowest in seen if lowest == -61}, set(NUMBERS) - {"begin"})
 
 
 if __name__ == "__main__":
